@@ -1,0 +1,1 @@
+"""Stemrules: rules that make files by patterns."""
