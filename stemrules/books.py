@@ -1,6 +1,6 @@
 """Rules, books and files: what they are, which rules fit a name, and its kin."""
 
-from stemrules.errors import Mismatch, NoBook, NoRule
+from stemrules.errors import Mismatch, NoBook, NoFiles, NoRule
 from stemrules.names import SMALLS, ascending, filled, is_name, is_pattern, need_name, stem_within
 
 MOST_LABEL_LETTERS = 8
@@ -53,7 +53,7 @@ def fitting(book, name):
     """The ascending list of the numbers of the rules that fit a name."""
     need_book(book)
     need_name(name)
-    return [number for number, rule in enumerate(book) if stem_within(rule[1], name) is not None]
+    return [number for number, _ in fitted(book, name, ())]
 
 
 def sources_of(book, number, name):
@@ -73,22 +73,28 @@ def kin(book, name):
     """The ascending tuple of the kin of a name."""
     need_book(book)
     need_name(name)
+    return ascending(gathered(book, name, None))
+
+
+def gathered(book, name, most):
+    """The list of the kin of a name; once there are more than the most, some may be left out."""
     # What comes behind a chain hangs on which rules stand in it, not on their order. So names
     # are gathered by the set of the rules that led to them, a number with a bit for each rule:
     # at most 64 groups, and each group is whole before it is gone through.
     groups = [{} for _ in range(1 << len(book))]
     groups[0][name] = True
+    found = {}
     for spent in range(1 << len(book)):
+        found.update(groups[spent])
+        if most is not None and len(found) > most:
+            return list(found)
         for number, rule in enumerate(book):
             longer = spent | (1 << number)
             if longer != spent:
                 made = sources_for_all(rule, list(groups[spent]))
                 for source in made:
                     groups[longer][source] = True
-    found = {}
-    for group in groups:
-        found.update(group)
-    return ascending(list(found))
+    return list(found)
 
 
 def sources_for_all(rule, names):
@@ -102,10 +108,34 @@ def sources_for_all(rule, names):
     return found
 
 
+def fitted(book, name, spent):
+    """The list of (number, names of the sources) of the rules that fit a name and are not spent."""
+    found = []
+    for number, rule in enumerate(book):
+        _, pattern, sources = rule
+        within = stem_within(pattern, name)
+        if within is not None and number not in spent:
+            found.append((number, [filled(source, within) for source in sources]))
+    return found
+
+
 def need_book(thing):
     """Raises NoBook if any object is no book."""
     if not is_book(thing):
         raise NoBook("this is no book")
+
+
+def need_files(thing):
+    """Raises NoFiles if any object is no set of files."""
+    if not are_files(thing):
+        raise NoFiles("these are no files")
+
+
+def need_things(book, files, name):
+    """Raises NoBook, NoFiles or NoName for the first one of these that is none."""
+    need_book(book)
+    need_files(files)
+    need_name(name)
 
 
 def is_number_in(book, thing):

@@ -22,6 +22,36 @@ STAGE_2 = """
 [True, True, [0], ['Mo', 'LIBa'], ('Mc', 'Mo', 'HMh', 'LIBa', 'Mexe')]
 """
 
+STAGE_3 = """
+>>> from stemrules.ways import block, can, made_by, shows_block, shows_way, way
+>>> LINK, COMPILE = ("link", ("", "exe"), (("", "o"), "LIBa")), ("cc", ("", "o"), (("", "c"),))
+>>> BOOK = (LINK, COMPILE)
+>>> [way(BOOK, ("Mc", "LIBa"), "Mexe"), way(BOOK, ("Mc",), "Mexe"), can(BOOK, ("Mc",), "Mo"), made_by(BOOK, ("Mc", "LIBa"), "Mexe")]
+[('Mexe', 'link', ('Mo', 'cc', ('Mc',)), ('LIBa',)), None, True, ['Mo', 'Mexe']]
+>>> [shows_way(BOOK, ("Mc", "Mo"), "Mo", ("Mo", "cc", ("Mc",))), block(BOOK, ("Mc",), "Mo")]
+[True, None]
+>>> [shows_block(BOOK, ("Mc",), "Mexe", [("Mexe", ()), ("LIBa", (0,))]), shows_block(BOOK, ("Mc",), "Mexe", [("Mexe", ())])]
+[True, False]
+"""
+
+STAGE_4 = """
+>>> from stemrules.sets import barrier, barriers, least_sets, shows_barrier
+>>> BOOK = (("link", ("", "exe"), (("", "o"), "LIBa")), ("cc", ("", "o"), (("", "c"),)))
+>>> [least_sets(BOOK, "Mexe"), barrier(BOOK, ("Mc",), "Mexe"), shows_barrier(BOOK, ("Mc",), "Mexe", ("LIBa", "Mexe"))]
+[[('Mexe',), ('Mc', 'LIBa'), ('Mo', 'LIBa')], ('LIBa', 'Mexe'), True]
+>>> barriers(BOOK, "Mexe")
+[('LIBa', 'Mexe'), ('Mc', 'Mo', 'Mexe')]
+"""
+
+STAGE_5 = """
+>>> from stemrules.tables import lean, parting, row_for, table
+>>> table((("link", ("", "exe"), (("", "o"), "LIBa")), ("cc", ("", "o"), (("", "c"),))))
+[('', '', (('', ''),)), ('', 'exe', (('', 'c'), 'LIBa')), ('', 'exe', (('', 'o'), 'LIBa')), ('', 'o', (('', 'c'),))]
+>>> TWO = (("x", ("", "a"), (("A", "b"),)), ("y", ("AC", "b"), (("D", ""),)))
+>>> [table(TWO)[1:], row_for(TWO, ("Dx",), "Cxa"), lean(TWO + TWO[:1]), parting(TWO, TWO[::-1])]
+[[('', 'a', (('A', 'b'),)), ('AC', 'ab', (('AD', 'b'),)), ('AC', 'b', (('D', ''),)), ('C', 'a', (('D', ''),))], ('C', 'a', (('D', ''),)), (0, 1, 2), None]
+"""
+
 
 class Examples(unittest.TestCase):
     def holds(self, text, name):
@@ -36,6 +66,15 @@ class Examples(unittest.TestCase):
 
     def test_stage_2(self):
         self.holds(STAGE_2, "stage 2")
+
+    def test_stage_3(self):
+        self.holds(STAGE_3, "stage 3")
+
+    def test_stage_4(self):
+        self.holds(STAGE_4, "stage 4")
+
+    def test_stage_5(self):
+        self.holds(STAGE_5, "stage 5")
 
     def test_readme(self):
         with open(README, encoding="ascii") as file:

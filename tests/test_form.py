@@ -22,6 +22,18 @@ INTERFACE = {
         "is_rule": ["thing"], "is_book": ["thing"], "are_files": ["thing"], "fitting": ["book", "name"],
         "sources_of": ["book", "number", "name"], "kin": ["book", "name"],
     },
+    "ways.py": {
+        "way": ["book", "files", "name"], "can": ["book", "files", "name"], "made_by": ["book", "files", "name"],
+        "shows_way": ["book", "files", "name", "thing"], "block": ["book", "files", "name"],
+        "shows_block": ["book", "files", "name", "thing"],
+    },
+    "sets.py": {
+        "least_sets": ["book", "name"], "barriers": ["book", "name"], "barrier": ["book", "files", "name"],
+        "shows_barrier": ["book", "files", "name", "thing"],
+    },
+    "tables.py": {
+        "table": ["book"], "row_for": ["book", "files", "name"], "parting": ["one", "other"], "lean": ["book"],
+    },
 }
 
 ALLOWED_BUILTINS = set((
@@ -35,6 +47,10 @@ METHODS = set((
     "split splitlines startswith strip update upper values zfill bit_length add discard sort format __init__").split())
 
 LIBRARY = ("heapq", "math", "itertools", "collections")
+
+# Words that are no names of anything, and words that stand in no code at all.
+NO_NAMES = set("mro elements open input law version_info with_traceback add_note register compile type vars dir id".split())
+NO_WORDS = re.compile("\\b(type|typing|enum|Enum|Flag|Generic|Protocol|ABC|namedtuple|TypedDict)\\b|dataclass|overload|contextmanager")
 
 BARRED = (ast.AsyncFunctionDef, ast.AsyncFor, ast.AsyncWith, ast.Await, ast.Global, ast.Div, ast.MatMult, ast.Import)
 
@@ -174,6 +190,29 @@ class Form(unittest.TestCase):
             word = getattr(node, "id", None) or getattr(node, "arg", None) or getattr(node, "name", None) or node.attr
             fits = word in ("_", "__init__", "__str__") or re.fullmatch("_?[A-Za-z][A-Za-z0-9_]*", word)
             self.assertTrue(fits, (name, word))
+            self.assertNotIn(word, NO_NAMES, name)
+
+    def test_words_that_stand_nowhere(self):
+        for name, tree in self.trees.items():
+            for row in ast.unparse(tree).split("\n"):
+                self.assertIsNone(NO_WORDS.search(row), (name, row))
+
+    def test_nothing_is_iterated_that_is_kept_or_made_on_the_way(self):
+        # No generators, and no set is kept: dicts and lists do.
+        self.assertEqual(self.nodes(ast.GeneratorExp, ast.Yield, ast.YieldFrom, ast.Set, ast.SetComp), [])
+        for name, node in self.nodes(ast.Assign):
+            if isinstance(node.value, ast.Call) and isinstance(node.value.func, ast.Name):
+                self.assertNotIn(node.value.func.id, ("set", "zip", "enumerate", "reversed", "map", "range"), (name, node.lineno))
+
+    def test_what_a_loop_goes_over_is_not_changed_in_it(self):
+        changing = ("append", "extend", "insert", "pop", "remove", "clear", "update", "setdefault", "sort", "reverse")
+        for name, node in self.nodes(ast.For):
+            over = {part.id for part in ast.walk(node.iter) if isinstance(part, ast.Name)}
+            for part in [inner for row in node.body for inner in ast.walk(row)]:
+                if isinstance(part, ast.Call) and isinstance(part.func, ast.Attribute) and part.func.attr in changing:
+                    self.assertNotIn(getattr(part.func.value, "id", None), over, (name, part.lineno))
+                if isinstance(part, ast.Subscript) and not isinstance(part.ctx, ast.Load):
+                    self.assertNotIn(getattr(part.value, "id", None), over, (name, part.lineno))
 
 
 if __name__ == "__main__":

@@ -4,20 +4,10 @@ import random
 import unittest
 
 from stemrules.books import are_files, is_book, kin
-from tests.things import plain_kin
+from tests.things import plain_kin, random_book
 
 LINK = ("link", ("", "exe"), (("", "o"), "LIBa"))
 COMPILE = ("cc", ("", "o"), (("", "c"), ("H", "h")))
-
-
-def random_book(chance, many):
-    ends = [(begin, end) for begin in ("", "A", "AB", "B") for end in ("", "a", "ba", "b") if begin + end]
-    plain = ["A", "a", "Aa", "ABba", "Bb"]
-    rules = []
-    for _ in range(many):
-        sources = [chance.choice(ends + plain) for _ in range(chance.randrange(4))]
-        rules.append(("x", chance.choice(ends), tuple(sources)))
-    return tuple(rules)
 
 
 class Kin(unittest.TestCase):

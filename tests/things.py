@@ -25,6 +25,7 @@ ODD = [
     nested(20, lambda thing: (thing, "b")), nested(20, lambda thing: ["A", thing, {}]),
     # A way may be a very deep tuple, and is passed as any object, too.
     nested(20000, lambda thing: ("A", "x", thing)),
+    ("A", "x"), ("A", "x", ("A",)), ("A", "x", "A"), [("A", ())], [("A", ()), ("A", (0,))], [("A", [])], [("A",)],
     ("A",) * 100000, ["A"] * 99999, [[]] * 99999, (("x", ("A", ""), ()),) * 99999,
     {number: "A" for number in range(50000)},
 ]
@@ -38,6 +39,8 @@ def changed(thing):
     if isinstance(thing, str):
         yield from (thing[1:], thing[:-1], thing[::-1], thing.swapcase(), thing + "a", "A" + thing, thing + "A")
         yield from (thing + " ", " " + thing, thing + "\n", thing * 2, thing * 9, list(thing), tuple(thing))
+    if isinstance(thing, int):
+        yield from (thing + 1, thing - 1, -thing - 1, bool(thing), str(thing), (thing,), thing + 10 ** 12)
     if isinstance(thing, (tuple, list)):
         kind = type(thing)
         yield list(thing) if kind is tuple else tuple(thing)
@@ -113,3 +116,20 @@ def plain_kin(book, name):
 
     follow(name, ())
     return tuple(sorted(found, key=lambda one: (len(one), one)))
+
+
+def random_book(chance, many):
+    ends = [(begin, end) for begin in ("", "A", "AB", "B") for end in ("", "a", "ba", "b") if begin + end]
+    plain = ["A", "a", "Aa", "ABba", "Bb"]
+    rules = []
+    for _ in range(many):
+        sources = [chance.choice(ends + plain) for _ in range(chance.randrange(4))]
+        rules.append(("x", chance.choice(ends), tuple(sources)))
+    return tuple(rules)
+
+
+def random_files(chance, names, most):
+    """Some of the names, in order."""
+    names = sorted(set(names), key=lambda name: (len(name), name))
+    some = set(chance.sample(names, chance.randrange(min(len(names), most) + 1)))
+    return tuple(name for name in names if name in some)
