@@ -4,6 +4,7 @@ from stemrules.errors import Mismatch, NoName
 
 CAPITALS = "ABCDEFGHIJKLMNOPQRSTUVWXYZ"
 SMALLS = "abcdefghijklmnopqrstuvwxyz"
+LETTERS = "ABCDEFGHIJKLMNOPQRSTUVWXYZabcdefghijklmnopqrstuvwxyz"
 MOST_END_LETTERS = 3
 
 
@@ -56,10 +57,7 @@ def put_in(source, stem):
 
 def in_order(names):
     """The ascending tuple of the different names of a list."""
-    if not isinstance(names, list):
-        raise Mismatch("this is no list of names")
-    for name in names:
-        need_name(name)
+    need_names(names)
     return ascending(names)
 
 
@@ -67,6 +65,14 @@ def need_name(thing):
     """Raises NoName if any object is no name."""
     if not is_name(thing):
         raise NoName("this is no name")
+
+
+def need_names(thing):
+    """Raises Mismatch if any object is no list, NoName for the first thing in it that is no name."""
+    if not isinstance(thing, list):
+        raise Mismatch("this is no list of names")
+    for name in thing:
+        need_name(name)
 
 
 def stem_within(pattern, name):

@@ -21,6 +21,10 @@ class Search:
             self.known[key] = self.first_right(name, spent)
         return self.known[key]
 
+    def forget(self):
+        """Forgets what was asked, as other files are there now."""
+        self.known = {}
+
     def first_right(self, name, spent):
         """The way that the first right rule gives to a name that is no file, None if none is right."""
         tried = fitted(self.book, name, spent)

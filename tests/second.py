@@ -1,8 +1,9 @@
-"""Slow second opinions on ways, blocks, sets and tables: the document's words, one after the other."""
+"""Slow second opinions on the functions of the stages 3 to 11: the document's words, one after the other."""
 
 import itertools
+import re
 
-from tests.things import plain_name, plain_stem
+from tests.things import plain_kin, plain_name, plain_stem
 
 
 def plain_put(source, within):
@@ -199,3 +200,179 @@ def plain_lean(book):
         if plain_table(tuple(fewer.values())) == plain_table(book):
             left = fewer
     return tuple(left)
+
+
+def ordered(names):
+    """Different names in the order of names."""
+    return tuple(sorted(set(names), key=lambda name: (len(name), name)))
+
+
+def plain_two_kin(one, other, name):
+    return ordered(plain_kin(one, name) + plain_kin(other, name))
+
+
+def small_names(most, capitals="ABC", smalls="abc"):
+    """All names of at most so many of these letters, in order."""
+    found = []
+    for many in range(1, most + 1):
+        for head in range(many + 1):
+            for letters in itertools.product(*[capitals] * head, *[smalls] * (many - head)):
+                found.append("".join(letters))
+    return ordered(found)
+
+
+def plain_same_class(one, other, name, more):
+    """Whether the chains of two names, one after the other, exchange their kin as the document asks."""
+    pairs = set()
+
+    def follow(book, first, second, chain):
+        pairs.add((first, second))
+        for number, (_, pattern, sources) in enumerate(book):
+            within = plain_stem(pattern, first), plain_stem(pattern, second)
+            if (within[0] is None) != (within[1] is None):
+                return False
+            if number not in chain and within[0] is not None:
+                for source in sources:
+                    if not follow(book, *[plain_put(source, stem) for stem in within], chain + (number,)):
+                        return False
+        return True
+
+    if not follow(one, name, more, ()) or not follow(other, name, more, ()):
+        return False
+    if len(pairs) != len(set(pair[0] for pair in pairs)) or len(pairs) != len(set(pair[1] for pair in pairs)):
+        return False
+    plain = [source for rule in one + other for source in rule[2] if isinstance(source, str)]
+    for first, second in pairs:
+        if first != second and (first in plain or second in plain):
+            return False
+        for _, pattern, _ in one + other:
+            if (plain_stem(pattern, first) is None) != (plain_stem(pattern, second) is None):
+                return False
+    return True
+
+
+def plain_class_names(one, other, names):
+    """Those of all small names, in order, that are alike to none ahead of them."""
+    found = {}
+    for name in names:
+        fits = tuple(plain_stem(rule[1], name) is None for rule in one + other), len(plain_two_kin(one, other, name))
+        ahead = found.setdefault(fits, [])
+        if not any(plain_same_class(one, other, first, name) for first in ahead):
+            ahead.append(name)
+    return list(ordered([name for ahead in found.values() for name in ahead]))
+
+
+def plain_parted(one, other, names, differ):
+    """The first one of some names in order, and the first files among its kin, for which something differs."""
+    for name in names:
+        for files in subsets(plain_two_kin(one, other, name)):
+            if differ(files, name):
+                return name, files
+    return None
+
+
+def plain_apart(one, other, names):
+    return plain_parted(one, other, names, lambda files, name: plain_way(one, files, name) != plain_way(other, files, name))
+
+
+def plain_makes_apart(one, other, names):
+    return plain_parted(one, other, names, lambda files, name: (plain_way(one, files, name) is None)
+                        != (plain_way(other, files, name) is None))
+
+
+def plain_used(book, files, name):
+    """The numbers of the rules that give the told way and the ways within it."""
+    found = set()
+
+    def gather(way):
+        if len(way) > 1:
+            found.add(int(way[1]))
+            for inner in way[2:]:
+                gather(inner)
+
+    # With numbers for labels the way tells which rules gave it.
+    gather(plain_way(tuple((str(number), *rule[1:]) for number, rule in enumerate(book)), files, name) or (name,))
+    return found
+
+
+def plain_first_use(book, number, names):
+    return plain_parted(book, (), names, lambda files, name: number in plain_used(book, files, name))
+
+
+def plain_run(book, files, wishes):
+    """(made, missed, middle, files behind)"""
+    there = list(files)
+    made = []
+    missed = []
+
+    def make(way):
+        if way[0] in there:
+            return
+        for inner in way[2:]:
+            make(inner)
+        if way[0] not in there:
+            there.append(way[0])
+            made.append(way[0])
+
+    for wish in wishes:
+        way = plain_way(book, there, wish)
+        if way is None:
+            missed.append(wish)
+        else:
+            make(way)
+    return made, missed, ordered(name for name in made if name not in wishes), ordered(there)
+
+
+def plain_settled(book, files, wishes):
+    there = list(files)
+    made = []
+    while True:
+        before = len(made)
+        for wish in wishes:
+            way = plain_way(book, there, wish)
+            if wish not in there and way is not None:
+                there.append(wish)
+                made.append((wish, way))
+        if len(made) == before:
+            return made, ordered(wish for wish in wishes if wish not in there), ordered(there)
+
+
+PATTERN = "(?:[A-Z]{1,3}[*][a-z]{0,3}|[*][a-z]{1,3})"
+SOURCE = "(?:" + PATTERN + "|(?=[A-Za-z]{1,6}(?![A-Za-z]))[A-Z]*[a-z]*)"
+SOURCES = "(?:" + SOURCE + "(?:[ \t]+" + SOURCE + "){0,2})?"
+RULE = re.compile("[ \t]*[a-z]{1,8}[ \t]*:[ \t]*" + PATTERN + "[ \t]*<[ \t]*" + SOURCES + "[ \t]*")
+ENDINGS = ("", ":*a<", "*a<", "*<", "a<", "<", "a", "*a")
+
+
+def goes_on(text):
+    """Whether a row that is a rule begins with a text that ends behind a whole token."""
+    endings = [ending for ending in ENDINGS if not (text[-1:].isalpha() and ending[:1].isalpha())]
+    return any(RULE.fullmatch(text + ending) for ending in endings)
+
+
+def plain_problem(row):
+    """The column of what is wrong in a row that is to be a rule, None if it is one."""
+    for at, sign in enumerate(row):
+        if re.fullmatch("[A-Za-z:*< \t]", sign) is None:
+            return at + 1
+    for token in re.finditer("[A-Za-z]+|[:*<]", row):
+        if not goes_on(row[:token.end()]):
+            return token.start() + 1
+    return None if RULE.fullmatch(row) else len(row) + 1
+
+
+def plain_book_problem(text):
+    """(line, column) of what is wrong in the text of a book, None if nothing is."""
+    for at, row in enumerate(text.split("\n")):
+        if row.strip(" \t") != "" and plain_problem(row) is not None:
+            return at + 1, plain_problem(row)
+    return None
+
+
+def plain_read(row):
+    """The rule that a right row tells."""
+    label, _, behind = row.partition(":")
+    pattern, _, sources = behind.partition("<")
+    ends = [source.strip(" \t") for source in [pattern] + re.split("[ \t]+", sources) if source.strip(" \t")]
+    told = [tuple(source.split("*")) if "*" in source else source for source in ends]
+    return label.strip(" \t"), told[0], tuple(told[1:])

@@ -52,6 +52,63 @@ STAGE_5 = """
 [[('', 'a', (('A', 'b'),)), ('AC', 'ab', (('AD', 'b'),)), ('AC', 'b', (('D', ''),)), ('C', 'a', (('D', ''),))], ('C', 'a', (('D', ''),)), (0, 1, 2), None]
 """
 
+STAGE_6 = """
+>>> from stemrules.classes import class_names, same_class
+>>> BOOK = (("cc", ("", "o"), (("", "c"),)),)
+>>> [class_names(BOOK, ()), same_class(BOOK, (), "Mo", "XYo"), same_class(BOOK, (), "Mo", "Mc")]
+[['A', 'o'], True, False]
+"""
+
+STAGE_7 = """
+>>> from stemrules.alike import apart, are_alike, make_alike, makes_apart
+>>> ONE = (("cc", ("", "o"), (("", "c"),)), ("as", ("", "o"), (("", "s"),)))
+>>> [are_alike(ONE, ONE[::-1]), make_alike(ONE, ONE[::-1]), apart(ONE, ONE[::-1]), makes_apart(ONE, ONE[:1])]
+[False, True, ('o', ('c', 's')), ('o', ('s',))]
+"""
+
+STAGE_8 = """
+>>> from stemrules.uses import exchanges, first_use, needless, needless_rules
+>>> BOOK = (("cc", ("", "o"), (("", "c"),)), ("as", ("", "o"), (("", "s"),)), ("cc", ("A", "o"), (("A", "c"),)))
+>>> [first_use(BOOK, 1), first_use(BOOK, 2), needless(BOOK, 2), needless_rules(BOOK), exchanges(BOOK)]
+[('o', ('s',)), None, True, [2], [1]]
+"""
+
+STAGE_9 = """
+>>> from stemrules.runs import files_after, run, settled
+>>> BOOK = (("link", ("", "exe"), (("", "o"), "LIBa")), ("cc", ("", "o"), (("", "c"),)))
+>>> [run(BOOK, ("Mc", "Nc", "LIBa"), ["Mexe", "Zexe", "No", "Mexe"]), files_after(BOOK, ("Mc", "LIBa"), ["Mexe"], True)]
+[(['Mo', 'Mexe', 'No'], ['Zexe'], ('Mo',)), ('Mc', 'LIBa', 'Mexe')]
+>>> settled((("s", ("B", "a"), (("B", ""),)),), ("B",), ["Baa", "Ba", "A"])
+([('Ba', ('Ba', 's', ('B',))), ('Baa', ('Baa', 's', ('Ba',)))], ('A',), ('B', 'Ba', 'Baa'))
+"""
+
+STAGE_10 = """
+>>> from stemrules.desk import Desk
+>>> desk = Desk()
+>>> [desk.do(("add", 0, ("cc", ("", "o"), (("", "c"),)))), desk.do(("put", "Mc")), desk.way("Mo"), len(desk), "Mc" in desk]
+[None, None, ('Mo', 'cc', ('Mc',)), 1, True]
+>>> [desk.news(["Mo", "Mc", "No"]), desk.undo(), desk.can("Mo"), desk.redo(), desk.files, desk.notes()[1]]
+[[('Mo', None, ('Mo', 'cc', ('Mc',))), ('Mc', None, ('Mc',))], None, False, None, ('Mc',), ('put', 'Mc')]
+"""
+
+STAGE_11 = r"""
+>>> from stemrules.texts import format_book, format_rule, parse_book, parse_rule
+>>> [parse_rule("cc :A*o< *c  LIBa H*h"), format_rule(("cc", ("A", "o"), (("", "c"), "LIBa"))), parse_rule("x:A*<"), format_rule(("x", ("A", ""), ()))]
+[('cc', ('A', 'o'), (('', 'c'), 'LIBa', ('H', 'h'))), 'cc : A*o < *c LIBa', ('x', ('A', ''), ()), 'x : A* <']
+>>> [parse_book("cc : *o < *c\n\nas : *o < *s"), format_book((("x", ("A", ""), ()),))]
+[(('cc', ('', 'o'), (('', 'c'),)), ('as', ('', 'o'), (('', 's'),))), 'x : A* <\n']
+"""
+
+STAGE_12 = """
+>>> from stemrules.console import Console
+>>> console = Console()
+>>> lines = ["add : link : *exe < *o LIBa", "add : cc : *o < *c", "put Mc", "put LIBa", "way Mexe", "can Zexe", "run Mexe", "kin Mexe"]
+>>> [console.execute(line) for line in lines]
+['ok', 'ok', 'ok', 'ok', 'made link', 'no', 'Mo Mexe', '4']
+>>> [console.execute(line) for line in ["least Mexe", "used 1", "needless 0", "cut 0", "way Mexe", "undo", "rules", "drop Mc", "files"]]
+['3', 'o: c', 'no', 'ok', 'none', 'ok', '2', 'ok', 'LIBa']
+"""
+
 
 class Examples(unittest.TestCase):
     def holds(self, text, name):
@@ -75,6 +132,27 @@ class Examples(unittest.TestCase):
 
     def test_stage_5(self):
         self.holds(STAGE_5, "stage 5")
+
+    def test_stage_6(self):
+        self.holds(STAGE_6, "stage 6")
+
+    def test_stage_7(self):
+        self.holds(STAGE_7, "stage 7")
+
+    def test_stage_8(self):
+        self.holds(STAGE_8, "stage 8")
+
+    def test_stage_9(self):
+        self.holds(STAGE_9, "stage 9")
+
+    def test_stage_10(self):
+        self.holds(STAGE_10, "stage 10")
+
+    def test_stage_11(self):
+        self.holds(STAGE_11, "stage 11")
+
+    def test_stage_12(self):
+        self.holds(STAGE_12, "stage 12")
 
     def test_readme(self):
         with open(README, encoding="ascii") as file:

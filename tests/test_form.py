@@ -34,7 +34,32 @@ INTERFACE = {
     "tables.py": {
         "table": ["book"], "row_for": ["book", "files", "name"], "parting": ["one", "other"], "lean": ["book"],
     },
+    "classes.py": {"class_names": ["one", "other"], "same_class": ["one", "other", "name", "more"]},
+    "alike.py": {
+        "make_alike": ["one", "other"], "are_alike": ["one", "other"], "makes_apart": ["one", "other"], "apart": ["one", "other"],
+    },
+    "uses.py": {
+        "first_use": ["book", "number"], "needless": ["book", "number"], "exchanges": ["book"], "needless_rules": ["book"],
+    },
+    "runs.py": {
+        "run": ["book", "files", "wishes"], "files_after": ["book", "files", "wishes", "swept"],
+        "settled": ["book", "files", "wishes"],
+    },
+    "desk.py": {"Desk": []},
+    "texts.py": {"parse_rule": ["text"], "parse_book": ["text"], "format_rule": ["rule"], "format_book": ["book"]},
+    "console.py": {"Console": []},
 }
+
+# The methods that stand in a class itself, with their arguments behind self.
+CLASSES = {
+    ("desk.py", "Desk"): {
+        "__len__": 0, "__contains__": 1, "__eq__": 1, "do": ["deed"], "all_done": ["deeds"], "undo": [], "redo": [], "notes": [],
+        "way": ["name"], "can": ["name"], "news": ["names"],
+    },
+    ("console.py", "Console"): {"execute": ["line"]},
+}
+
+DOUBLE = ("__init__", "__str__", "__len__", "__contains__", "__eq__")
 
 ALLOWED_BUILTINS = set((
     "len range enumerate zip min max sum abs sorted reversed int str bool list tuple dict set isinstance ord repr any all "
@@ -73,6 +98,11 @@ def is_plain(node):
     return True
 
 
+def is_table(node, bound):
+    """Whether this is a dict whose values are functions that are defined above."""
+    return isinstance(node, ast.Dict) and all(isinstance(value, ast.Name) and value.id in bound for value in node.values)
+
+
 class Form(unittest.TestCase):
     def setUp(self):
         self.sources = sources()
@@ -107,6 +137,16 @@ class Form(unittest.TestCase):
                     self.assertEqual([one.arg for one in node.args.args], arguments, word)
                     self.assertEqual(node.args.defaults + node.args.kwonlyargs, [], word)
 
+    def test_methods_stand_in_their_classes(self):
+        for (name, word), methods in CLASSES.items():
+            found, = [node for node in self.trees[name].body if isinstance(node, ast.ClassDef) and node.name == word]
+            self.assertEqual(found.bases, [])
+            defined = {node.name: node.args for node in found.body if isinstance(node, ast.FunctionDef)}
+            for method, arguments in methods.items():
+                given = [one.arg for one in defined[method].args][1:]
+                self.assertEqual(len(given) if isinstance(arguments, int) else given, arguments, method)
+                self.assertEqual(defined[method].defaults + defined[method].kwonlyargs, [], method)
+
     def test_module_level(self):
         for name, tree in self.trees.items():
             bound = []
@@ -116,7 +156,7 @@ class Form(unittest.TestCase):
                 elif isinstance(node, ast.ImportFrom):
                     bound.extend(alias.name for alias in node.names)
                 elif isinstance(node, ast.Assign):
-                    self.assertTrue(is_plain(node.value), (name, node.lineno))
+                    self.assertTrue(is_plain(node.value) or is_table(node.value, bound), (name, node.lineno))
                     bound.extend(target.id for target in node.targets)
                 else:
                     self.assertIsInstance(node, ast.Expr, (name, node.lineno))
@@ -188,7 +228,7 @@ class Form(unittest.TestCase):
     def test_names(self):
         for name, node in self.nodes(ast.Name, ast.arg, ast.FunctionDef, ast.ClassDef, ast.Attribute):
             word = getattr(node, "id", None) or getattr(node, "arg", None) or getattr(node, "name", None) or node.attr
-            fits = word in ("_", "__init__", "__str__") or re.fullmatch("_?[A-Za-z][A-Za-z0-9_]*", word)
+            fits = word == "_" or word in DOUBLE or re.fullmatch("_?[A-Za-z][A-Za-z0-9_]*", word)
             self.assertTrue(fits, (name, word))
             self.assertNotIn(word, NO_NAMES, name)
 
