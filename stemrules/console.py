@@ -130,7 +130,7 @@ class Console:
 
 
 def read_line(line):
-    """The word of a command line and what stands behind it: a name, a number, a text, or None."""
+    """The word of a command line and what stands behind it: a name, a number, or a text, perhaps an empty one."""
     head, mark, text = line.partition(" : ")
     words = head.split(" ")
     asked = COMMANDS.get(words[0])
@@ -146,7 +146,7 @@ def read_line(line):
         return words[0], words[1]
     if asked == "number":
         return words[0], int(words[1])
-    return words[0], (text if asked == "text" else None)
+    return words[0], text
 
 
 def is_short_name(word):

@@ -122,11 +122,11 @@ def need_deed(thing):
 
 def with_rule(book, number, rule):
     """A book with a rule ahead of the one with this number, any object."""
-    if not is_number_in((*book, rule), number):
+    if not is_number_in(book + (rule,), number):
         raise NoRule("no rule can stand at this number")
     if len(book) == MOST_RULES:
         raise TooMany(MOST_RULES)
-    return (*book[:number], rule, *book[number:])
+    return book[:number] + (rule,) + book[number:]
 
 
 def without_rule(book, number):
@@ -143,12 +143,11 @@ def with_file(files, name):
         raise NoName("this file stands there")
     if len(files) == MOST_FILES:
         raise TooMany(MOST_FILES)
-    return ascending((*files, name))
+    return ascending(files + (name,))
 
 
 def without_file(files, name):
     """Files without a name, any object."""
-    need_name(name)
     if name not in files:
-        raise NoName("this file does not stand there")
+        raise NoName("no such file stands there")
     return tuple([file for file in files if file != name])

@@ -27,8 +27,8 @@ class Row:
         return "" if self.at_end() else self.tokens[self.at][1]
 
     def is_joined(self):
-        """Whether there is a next token, without a blank ahead of it."""
-        if self.at_end() or self.at == 0:
+        """Whether there is a next token, without a blank between it and the last one that was read."""
+        if self.at_end():
             return False
         place, word = self.tokens[self.at - 1]
         return self.tokens[self.at][0] == place + len(word)
@@ -67,7 +67,7 @@ def parse_book(text):
 def format_rule(rule):
     """The canonical text of a rule, without a newline."""
     label, pattern, sources = rule
-    return " ".join([label, ":", source_text(pattern), "<", *[source_text(source) for source in sources]])
+    return " ".join([label, ":", source_text(pattern), "<"] + [source_text(source) for source in sources])
 
 
 def format_book(book):
@@ -80,9 +80,7 @@ def tokens_of(text, line):
     found = []
     at = 0
     while at < len(text):
-        word = letters_at(text, at)
-        if word == "" and text[at] in SIGNS:
-            word = text[at]
+        word = text[at] if text[at] in SIGNS else letters_at(text, at)
         if word == "" and text[at] not in BLANKS:
             raise SyntaxProblem(line, at + 1)
         if word != "":
@@ -125,8 +123,9 @@ def read_source(row):
     if row.next_word() == "*":
         return read_pattern(row, "")
     word = row.taken(is_rule_source(row.next_word()))
-    if row.next_word() != "*" or not row.is_joined():
+    if not row.is_joined():
         return word
+    # Without a blank only the star of a pattern may stand behind it.
     row.need(is_begin(word))
     return read_pattern(row, word)
 

@@ -37,22 +37,7 @@ def plain_way(book, files, name, spent=()):
 
 
 def plain_made_by(book, files, name):
-    there = set(files)
-    made = []
-
-    def make(way):
-        if way[0] in there:
-            return
-        for inner in way[2:]:
-            make(inner)
-        if way[0] not in there:
-            there.add(way[0])
-            made.append(way[0])
-
-    way = plain_way(book, files, name)
-    if way is not None:
-        make(way)
-    return made
+    return plain_run(book, files, [name])[0]
 
 
 def plain_shows_way(book, files, name, thing, spent=()):

@@ -3,7 +3,7 @@
 import random
 import unittest
 
-from stemrules.classes import class_names, same_class
+from stemrules.classes import class_names, next_word, same_class
 from stemrules.errors import TooMany
 from stemrules.names import in_order, is_name
 from tests.second import plain_class_names, plain_same_class, plain_two_kin, small_names
@@ -11,6 +11,7 @@ from tests.things import plain_kin, random_book
 
 CC, AS = ("cc", ("", "o"), (("", "c"),)), ("as", ("", "o"), (("", "s"),))
 NAMES = small_names(4)
+LETTERS = [chr(code) for code in (*range(65, 91), *range(97, 123))]
 
 # Thirteen kin of the name a, and twelve, by four rules.
 WIDE = tuple(("x", ("", "a"), tuple(("", one + other) for other in "xyz")) for one in "bcde")
@@ -123,6 +124,14 @@ class ClassNames(unittest.TestCase):
                 self.assertEqual(len(alike), 1, (one, other, name))
                 self.assertLessEqual((len(alike[0]), alike[0]), (len(name), name))
 
+    def test_next_word_goes_through_all_names_in_order(self):
+        word = ""
+        for right in in_order([one + other for one in LETTERS for other in LETTERS + [""] if is_name(one + other)]) + ("AAA",):
+            word = next_word(word)
+            self.assertEqual(word, right)
+        for word, right in (("AZz", "Aaa"), ("AAz", "ABA"), ("ZZzz", "Zaaa"), ("Azzz", "BAAA"), ("Zzzz", "aaaa"), ("zzz", "AAAA"), ("Aazz", "Abaa")):
+            self.assertEqual(next_word(word), right)
+
     def test_lists_are_new(self):
         one, other = class_names((CC,), ()), class_names((CC,), ())
         self.assertIs(type(one), list)
@@ -150,6 +159,15 @@ class SameClass(unittest.TestCase):
         twice = (("x", ("A", ""), (("B", "a"), "Ba")),)
         self.assertIs(same_class(twice, (), "A", "Ab"), False)
         self.assertIs(same_class(twice, (), "Ac", "Ab"), True)
+
+    def test_as_many_kin_that_the_same_rules_fit(self):
+        # Of Bba both sources of the second rule are a, of BAba the first one is the Aa of the first rule.
+        book = (("x", ("B", ""), ("Aa",)), ("x", ("B", "ba"), (("", "a"), "a")))
+        self.assertIs(same_class(book, (), "Bba", "BAba"), False)
+        self.assertIs(same_class((), book, "BAba", "Bba"), False)
+        # By ABba and the rule x, Bba comes back to itself, and Ba to its other source.
+        book = (("x", ("AB", ""), (("B", ""),)), ("y", ("", "a"), ("ABba", ("", "ba"))))
+        self.assertIs(same_class(book, (), "Ba", "Bba"), False)
 
     def test_plain_sources_have_themselves(self):
         book = (("x", ("", "q"), ("LIBa",)),)
